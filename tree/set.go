@@ -21,5 +21,24 @@ func (s Set) With(other Set) Set {
 	return s
 }
 
+// Others gives all bytes that are not of the set.
+func (s Set) Others() Set {
+	for i := range s {
+		s[i] = ^s[i]
+	}
+	return s
+}
+
+// Folded gives the set with, for each of its letters, that letter as great and as small one.
+func (s Set) Folded() Set {
+	for small := byte('a'); small <= 'z'; small++ {
+		great := small - 'a' + 'A'
+		if s.Has(small) || s.Has(great) {
+			s = s.With(Between(small, small)).With(Between(great, great))
+		}
+	}
+	return s
+}
+
 // Has tells whether the byte is one of the set.
 func (s Set) Has(b byte) bool { return s[b/64]>>(b%64)&1 == 1 }

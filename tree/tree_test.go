@@ -23,6 +23,37 @@ func TestSetIsAValue(t *testing.T) {
 	}
 }
 
+func TestSetOthers(t *testing.T) {
+	s := Between('b', 200)
+	others := s.Others()
+	for b := range 256 {
+		if others.Has(byte(b)) == s.Has(byte(b)) {
+			t.Errorf("byte %d is of both, or of none", b)
+		}
+	}
+	if s != Between('b', 200) || others.Others() != s {
+		t.Error("Others changed the set, or does not turn back")
+	}
+}
+
+func TestSetFolded(t *testing.T) {
+	s := Between('x', '{').With(Between('@', 'B'))
+	want := s.With(Between('X', 'Z')).With(Between('a', 'b'))
+	if got := s.Folded(); got != want {
+		t.Errorf("Folded gives %v, want %v", got, want)
+	}
+	if s != Between('x', '{').With(Between('@', 'B')) {
+		t.Error("Folded changed the set")
+	}
+	none := Between(0, '@').With(Between('[', '`')).With(Between('{', 255))
+	if none.Folded() != none {
+		t.Error("Folded changed what is no letter")
+	}
+	if small := Between('a', 'z'); small.Folded() != Between('A', 'Z').Folded() || small.Folded() != small.With(Between('A', 'Z')) {
+		t.Error("Folded leaves out a letter")
+	}
+}
+
 func TestGroupsAreCounted(t *testing.T) {
 	a := NewBytes(Between('a', 'a'), false)
 	group := NewGroup(1, NewGroup(2, a))
