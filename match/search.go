@@ -59,6 +59,24 @@ func (s *Search) Find(from int) (match api.Span, ok bool) {
 	return api.Span{}, false
 }
 
+// All goes over the matches, one behind the other.
+func (s *Search) All(yield func(match api.Span) bool) {
+	match, ok := s.Find(0)
+	for ok && yield(match) {
+		match, ok = s.next(match)
+	}
+}
+
+// next tells the match that follows another.
+func (s *Search) next(ahead api.Span) (match api.Span, ok bool) {
+	match, ok = s.Find(ahead.To)
+	if ok && match.To == ahead.To {
+		// An empty one here is none; and since Find tells the longest, no other begins here.
+		return s.Find(ahead.To + 1)
+	}
+	return match, ok
+}
+
 // Spans gives a fresh list: a match that Find told, and what each group took in it.
 func (s *Search) Spans(match api.Span) []api.Span {
 	spans := make([]api.Span, 1+s.plan.groups)

@@ -115,10 +115,11 @@ func (s *slow) walk(p tree.Part, from, to int) {
 	}
 }
 
-func (s *slow) find(whole tree.Part) []api.Span {
-	for from := range len(s.text) + 1 {
+// find tells the first match from a place on; an empty one at that place is none if it is barred.
+func (s *slow) find(whole tree.Part, begin int, barred bool) []api.Span {
+	for from := begin; from <= len(s.text); from++ {
 		for to := len(s.text); to >= from; to-- {
-			if s.takes(whole, from, to) {
+			if s.takes(whole, from, to) && !(barred && to == begin) {
 				s.spans = slices.Repeat([]api.Span{{From: -1, To: -1}}, 1+whole.Groups())
 				s.spans[0] = api.Span{From: from, To: to}
 				s.walk(whole, from, to)
@@ -129,17 +130,24 @@ func (s *slow) find(whole tree.Part) []api.Span {
 	return nil
 }
 
+func (s *slow) all(whole tree.Part) (lists [][]api.Span) {
+	for spans := s.find(whole, 0, false); spans != nil; spans = s.find(whole, spans[0].To, true) {
+		lists = append(lists, spans)
+	}
+	return lists
+}
+
 // checkAgainstSlow holds what a plan finds in a text against what slow finds in it.
 func checkAgainstSlow(t *testing.T, pattern string, whole tree.Part, f api.Flags, text string, e api.Edges) {
 	s := &slow{text: text, flags: f, edges: e}
-	want := s.find(whole)
-	var got []api.Span
+	want := s.all(whole)
+	var got [][]api.Span
 	search := NewPlan(whole, f).Search(text, e)
-	if match, ok := search.Find(0); ok {
-		got = search.Spans(match)
+	for match := range search.All {
+		got = append(got, search.Spans(match))
 	}
-	if !slices.Equal(got, want) {
-		t.Errorf("P6, P7: %q, flags %d, in %q, edges %d: %v, want %v", pattern, f, text, e, got, want)
+	if !slices.EqualFunc(got, want, slices.Equal) {
+		t.Errorf("P6, P7, P10: %q, flags %d, in %q, edges %d: %v, want %v", pattern, f, text, e, got, want)
 	}
 }
 
@@ -241,7 +249,7 @@ func TestManyPatternsAgainstSlow(t *testing.T) {
 	}
 }
 
-// Where the match lies in long texts, the library knows too. (Of what the groups take it says otherwise than the document.)
+// Where the matches lie in long texts, the library knows too. (Of what the groups take it says otherwise than the document.)
 func TestLongTextsAgainstLibrary(t *testing.T) {
 	m := &maker{state: 1}
 	for range 1500 {
@@ -253,10 +261,12 @@ func TestLongTextsAgainstLibrary(t *testing.T) {
 			continue // too long, here or there
 		}
 		text := m.text(m.below(api.MaxText + 1))
-		want := library.FindStringIndex(text)
-		got, ok := NewPlan(whole, 0).Search(text, 0).Find(0)
-		if ok != (want != nil) || ok && !slices.Equal(want, []int{got.From, got.To}) {
-			t.Errorf("P8: %q in %q: %v, %v, want %v", pattern, text, got, ok, want)
+		var got [][]int
+		for match := range NewPlan(whole, 0).Search(text, 0).All {
+			got = append(got, []int{match.From, match.To})
+		}
+		if want := library.FindAllStringIndex(text, -1); !slices.EqualFunc(got, want, slices.Equal) {
+			t.Errorf("P8, P10: %q in %q: %v, want %v", pattern, text, got, want)
 		}
 	}
 }

@@ -199,7 +199,12 @@ func TestGoroutinesHaveEnded(t *testing.T) {
 			Compile(p, 0)
 		}
 	}
-	// The scanner's last act is seen ahead of its leaving the count; a goroutine that hangs never leaves it.
+	checkGoroutines(t, before)
+}
+
+// checkGoroutines waits till there are no more goroutines than there were before. (The last act of one is seen ahead of its leaving the count; one that hangs never leaves it.)
+func checkGoroutines(t *testing.T, before int) {
+	t.Helper()
 	for range 200 {
 		if runtime.NumGoroutine() <= before {
 			return

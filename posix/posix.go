@@ -66,15 +66,24 @@ func (r *Regex) Find(text string, e api.Edges, n int) ([]api.Span, error) {
 	if n < 1 || n > api.MaxSpans {
 		return nil, api.ErrArg
 	}
-	if r.isEmpty() {
+	spans := r.first(text, e)
+	if spans == nil {
 		return nil, nil
+	}
+	return listOf(n, spans), nil
+}
+
+// first gives a fresh list: the match of a text and what each group took in it; nil, if there is none.
+func (r *Regex) first(text string, e api.Edges) []api.Span {
+	if r.isEmpty() {
+		return nil
 	}
 	s := r.ready().Search(text, e)
 	whole, ok := s.Find(0)
 	if !ok {
-		return nil, nil
+		return nil
 	}
-	return listOf(n, s.Spans(whole)), nil
+	return s.Spans(whole)
 }
 
 // listOf gives a list of n spans: the first ones are those of the list, those beyond are none.
@@ -85,20 +94,3 @@ func listOf(n int, spans []api.Span) []api.Span {
 	}
 	return list
 }
-
-// All goes over the matches, one behind the other (P10).
-func (r *Regex) All(text string) func(yield func([]api.Span) bool) {
-	return func(yield func([]api.Span) bool) {}
-}
-
-// FindAll gives the matches as lists (P10).
-func (r *Regex) FindAll(text string, n int) ([][]api.Span, error) { return nil, nil }
-
-// Put puts a text in the place of each match (P11).
-func (r *Regex) Put(text string, with string) (string, error) { return "", nil }
-
-// Replace puts what f answers in the place of each match (P11).
-func (r *Regex) Replace(text string, f func([]api.Span) string) (string, error) { return "", nil }
-
-// FindMany finds in several texts at once (P12).
-func (r *Regex) FindMany(texts []string, e api.Edges) ([][]api.Span, error) { return nil, nil }
